@@ -1,0 +1,1 @@
+"""Which rules of a plant must be given up, so that what was seen may be."""
