@@ -2,7 +2,9 @@
 
 from failrules.pairs import RISING, last_place
 from failrules.rules import LESS, MEET, MORE, RATE, STILL, SUM
-from failrules.runs import first_run
+from failrules.rulesets import clashes_by, how_many_in, in_each, in_some, rules_in, set_of
+from failrules.runs import Case, first_run, has_run, least_sets, moments_of, states_by_moment
+from failrules.states import place_in
 
 MOST_QUANTITIES = 3
 MOST_MARKS = 3
@@ -16,10 +18,6 @@ NOT_BEGUN = -11
 NOT_RIGHT = -22
 TOO_MANY = -28
 NONE_THERE = -33
-
-
-class CallNotBuilt(NotImplementedError):
-    pass
 
 
 class Plant:
@@ -119,31 +117,59 @@ def goes(plant, t, i, d):
 
 
 def add_reading(plant, reading, right):
-    if not has_quantity(plant, reading[1]):
-        return [NO_SUCH]
-    if reading[0] > LAST_MOMENT or not right:
-        return [NOT_RIGHT]
+    refusal = refusal_of(plant, reading, right)
+    if refusal:
+        return refusal
     if len(plant.readings) == MOST_READINGS:
         return [TOO_MANY]
     plant.readings.append(reading)
     return [len(plant.readings) - 1]
 
 
+# An empty list if nothing is to be refused, however many readings there are.
+def refusal_of(plant, reading, right):
+    if not has_quantity(plant, reading[1]):
+        return [NO_SUCH]
+    if reading[0] > LAST_MOMENT or not right:
+        return [NOT_RIGHT]
+    return []
+
+
+def has_reading(plant, k):
+    return k < len(plant.readings)
+
+
 def unsay(plant, k):
-    if k >= len(plant.readings):
+    if not has_reading(plant, k):
         return [NO_SUCH]
     plant.readings.pop(k)
     return [len(plant.readings)]
 
 
+def case_of(plant):
+    return Case(plant.marks, plant.rules, plant.readings)
+
+
+def yes_or_no(truth):
+    return [1 if truth else 0]
+
+
+def counted(numbers):
+    return [len(numbers)] + numbers
+
+
+def is_rule_list(plant, listed):
+    return len(set(listed)) == len(listed) and all([r < len(plant.rules) for r in listed])
+
+
 def ok(plant):
-    return [1 if run_without(plant, []) else 0]
+    return yes_or_no(has_run(case_of(plant), 0))
 
 
-def run(plant, given_up):
-    if not is_rule_list(plant, given_up):
+def run(plant, listed):
+    if not is_rule_list(plant, listed):
         return [NOT_RIGHT]
-    states = run_without(plant, given_up)
+    states = first_run(case_of(plant), set_of(listed))
     if not states:
         return [NONE_THERE]
     answer = [len(states)]
@@ -152,18 +178,99 @@ def run(plant, given_up):
     return answer
 
 
-def is_rule_list(plant, listed):
-    return len(set(listed)) == len(listed) and all([r < len(plant.rules) for r in listed])
+def explains(plant, listed):
+    if not is_rule_list(plant, listed):
+        return [NOT_RIGHT]
+    return yes_or_no(has_run(case_of(plant), set_of(listed)))
 
 
-def run_without(plant, given_up):
-    kept = [rule for r, rule in enumerate(plant.rules) if r not in given_up]
-    return first_run(plant.marks, kept, plant.readings)
+def least(plant):
+    return counted(least_sets(case_of(plant)))
 
 
-# By the number of the call: what carries it out (None: nothing does yet), how many whole numbers it is given,
-# and whether a list stands behind these. The calls that are not built are here so that one can read past them,
-# and they too answer before a begin.
+def nth(plant, k):
+    return rules_of_one(least_sets(case_of(plant)), k)
+
+
+def rules_of_one(rulesets, k):
+    if k >= len(rulesets):
+        return [NONE_THERE]
+    return counted(rules_in(rulesets[k]))
+
+
+# The sets are rising, and of several with as few rules min takes the first: the one with the lesser number.
+def fewest(plant):
+    rulesets = least_sets(case_of(plant))
+    if not rulesets:
+        return [NONE_THERE]
+    return counted(rules_in(min(rulesets, key=how_many_in)))
+
+
+def suspects(plant):
+    return counted(rules_in(in_some(least_sets(case_of(plant)))))
+
+
+def sure(plant):
+    rulesets = least_sets(case_of(plant))
+    if not rulesets:
+        return [NONE_THERE]
+    return counted(rules_in(in_each(rulesets)))
+
+
+def clashes_of(plant):
+    return clashes_by(least_sets(case_of(plant)), len(plant.rules))
+
+
+def clashes(plant):
+    return counted(clashes_of(plant))
+
+
+def clash(plant, k):
+    return rules_of_one(clashes_of(plant), k)
+
+
+def may(plant, t, i, listed):
+    if not has_quantity(plant, i):
+        return [NO_SUCH]
+    if t >= moments_of(plant.readings) or not is_rule_list(plant, listed):
+        return [NOT_RIGHT]
+    states = states_by_moment(case_of(plant), set_of(listed))[t]
+    if not states:
+        return [NONE_THERE]
+    return counted(sorted(set([place_in(state, i) for state in states])))
+
+
+def least_sets_if(plant, readings):
+    return least_sets(Case(plant.marks, plant.rules, readings))
+
+
+def tells(plant, t, i, p):
+    reading = (t, i, 0, p)
+    refusal = refusal_of(plant, reading, has_place(plant, i, p))
+    if refusal:
+        return refusal
+    return counted(least_sets_if(plant, plant.readings + [reading]))
+
+
+def spare(plant, k):
+    if not has_reading(plant, k):
+        return [NO_SUCH]
+    others = plant.readings[:k] + plant.readings[k + 1:]
+    return yes_or_no(least_sets_if(plant, others) == least_sets_if(plant, plant.readings))
+
+
+def tell_reading(plant, k):
+    if not has_reading(plant, k):
+        return [NO_SUCH]
+    return list(plant.readings[k])
+
+
+def tell_state(plant):
+    return [len(plant.marks), len(plant.rules), len(plant.readings), moments_of(plant.readings)] + plant.marks
+
+
+# By the number of the call: what carries it out, how many whole numbers it is given, and whether a list stands behind
+# these.
 CALLS = (
     (begin, 0, False),
     (quantity, 1, False),
@@ -179,19 +286,19 @@ CALLS = (
     (unsay, 1, False),
     (ok, 0, False),
     (run, 0, True),
-    (None, 0, True),
-    (None, 0, False),
-    (None, 1, False),
-    (None, 0, False),
-    (None, 0, False),
-    (None, 0, False),
-    (None, 0, False),
-    (None, 1, False),
-    (None, 2, True),
-    (None, 3, False),
-    (None, 1, False),
-    (None, 1, False),
-    (None, 0, False),
+    (explains, 0, True),
+    (least, 0, False),
+    (nth, 1, False),
+    (fewest, 0, False),
+    (suspects, 0, False),
+    (sure, 0, False),
+    (clashes, 0, False),
+    (clash, 1, False),
+    (may, 2, True),
+    (tells, 3, False),
+    (spare, 1, False),
+    (tell_reading, 1, False),
+    (tell_state, 0, False),
 )
 BEGIN = 0
 
@@ -232,8 +339,6 @@ def answer_of(plant, number, given):
     if number != BEGIN and not plant.begun:
         return [NOT_BEGUN]
     work = CALLS[number][0]
-    if work is None:
-        raise CallNotBuilt(f"call {number} is not built yet")
     if len(given) == 0:
         return work(plant)
     if len(given) == 1:

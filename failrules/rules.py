@@ -11,8 +11,8 @@ STILL = "still"
 MEET = "meet"
 
 
-def fits(state, rules):
-    return all([holds(rule, state) for rule in rules])
+def broken_in(state, rules):
+    return [r for r, rule in enumerate(rules) if not holds(rule, state)]
 
 
 def holds(rule, state):

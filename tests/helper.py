@@ -63,9 +63,10 @@ def quantities(*marks):
 
 # Each is asked by itself behind some calls; together they tell what quantities, rules and readings there are.
 PROBES = (
+    [("state",), ("reading", 0), ("reading", 1), ("reading", 11), ("least",), ("clashes",), ("run", [])],
     [("quantity", 0)], [("quantity", 1)], [("still", 0)], [("seen", 0, 0, 0)], [("seen", 3, 0, 0)],
     [("drop", 0)], [("drop", 4)], [("unsay", 0)], [("unsay", 11)], [("seen", 0, 1, 0)], [("seen", 0, 2, 0)],
-    [("seen", 0, 0, 2)], [("seen", 0, 1, 4)], [OK], [("run", [])], [("run", [0])], [("run", [4])],
+    [("seen", 0, 0, 2)], [("seen", 0, 1, 4)], [OK], [("run", [0])], [("run", [4])],
 )
 
 

@@ -57,8 +57,9 @@ def all_states(marks):
     return sorted(itertools.product(*pairs))
 
 
+@functools.lru_cache(maxsize=10000)
 def first_run(marks, rules, readings):
-    """The states of the first run, or None."""
+    """The states of the first run, or None; all that's given is tuples."""
     count = max([t for t, i, what, value in readings], default=0) + 1
     fitting = [state for state in all_states(marks) if all(holds(rule, state) for rule in rules)]
     layers = []
@@ -78,6 +79,16 @@ def first_run(marks, rules, readings):
         return None
 
     return rest_of_run(0, None)
+
+
+def parts_of(rules):
+    """All sets of some of these rules, the empty one and that of all among them."""
+    rules = sorted(rules)
+    return [frozenset(some) for n in range(len(rules) + 1) for some in itertools.combinations(rules, n)]
+
+
+def number_of(ruleset):
+    return sum(2 ** r for r in ruleset)
 
 
 class Oracle:
@@ -139,30 +150,120 @@ class Oracle:
         return self.one_less(self.readings, k)
 
     def seen(self, t, i, p):
-        return self.reading(t, i, 0, p)
+        return self.one_seen(t, i, 0, p)
 
     def goes(self, t, i, d):
-        return self.reading(t, i, 1, d)
+        return self.one_seen(t, i, 1, d)
 
-    def reading(self, t, i, what, value):
+    def refusal(self, t, i, what, value):
         if i not in range(len(self.marks)):
             return [-2]
         values = [range(2 * self.marks[i] + 1), range(3)][what]
         if t not in range(4) or value not in values:
             return [-22]
-        return self.one_more(self.readings, 12, (t, i, what, value))
+        return None
+
+    def one_seen(self, t, i, what, value):
+        return self.refusal(t, i, what, value) or self.one_more(self.readings, 12, (t, i, what, value))
+
+    def run_without(self, given_up, readings):
+        kept = tuple(rule for r, rule in enumerate(self.rules) if r not in given_up)
+        return first_run(tuple(self.marks), kept, tuple(readings))
+
+    def does_explain(self, given_up, readings):
+        return self.run_without(given_up, readings) is not None
+
+    def is_wrong(self, given_up):
+        return any(given_up.count(r) > 1 or r not in range(len(self.rules)) for r in given_up)
 
     def ok(self):
-        return [0 if first_run(self.marks, self.rules, self.readings) is None else 1]
+        return [int(self.does_explain([], self.readings))]
+
+    def explains(self, given_up):
+        return [-22] if self.is_wrong(given_up) else [int(self.does_explain(given_up, self.readings))]
 
     def run(self, given_up):
-        if any(given_up.count(r) > 1 or r not in range(len(self.rules)) for r in given_up):
+        if self.is_wrong(given_up):
             return [-22]
-        kept = [rule for r, rule in enumerate(self.rules) if r not in given_up]
-        states = first_run(self.marks, kept, self.readings)
+        states = self.run_without(given_up, self.readings)
         if states is None:
             return [-33]
         return [len(states)] + [number for state in states for pair in state for number in pair]
+
+    def moments(self):
+        return 1 + max([t for t, i, what, value in self.readings], default=0)
+
+    def may(self, t, i, given_up):
+        if i not in range(len(self.marks)):
+            return [-2]
+        if t not in range(self.moments()) or self.is_wrong(given_up):
+            return [-22]
+        if not self.does_explain(given_up, self.readings):
+            return [-33]
+        # In some run the quantity is there at that moment: had it been seen there, too, there would be a run.
+        places = [p for p in range(2 * self.marks[i] + 1) if self.does_explain(given_up, self.readings + [(t, i, 0, p)])]
+        return [len(places)] + places
+
+    def least_sets(self, readings):
+        sets = [some for some in parts_of(range(len(self.rules))) if self.does_explain(some, readings)
+                and not any(self.does_explain(part, readings) for part in parts_of(some) if part != some)]
+        return sorted(sets, key=number_of)
+
+    def all_clashes(self):
+        everything = frozenset(range(len(self.rules)))
+        sets = [some for some in parts_of(everything) if not self.does_explain(everything - some, self.readings)
+                and all(self.does_explain(everything - some | {r}, self.readings) for r in some)]
+        return sorted(sets, key=number_of)
+
+    def sets_told(self, sets):
+        return [len(sets)] + [number_of(some) for some in sets]
+
+    def rules_told(self, rules):
+        return [len(rules)] + sorted(rules)
+
+    def kth_told(self, sets, k):
+        return self.rules_told(sets[k]) if k in range(len(sets)) else [-33]
+
+    def least(self):
+        return self.sets_told(self.least_sets(self.readings))
+
+    def nth(self, k):
+        return self.kth_told(self.least_sets(self.readings), k)
+
+    def fewest(self):
+        sets = sorted(self.least_sets(self.readings), key=lambda some: (len(some), number_of(some)))
+        return self.kth_told(sets, 0)
+
+    def suspects(self):
+        sets = self.least_sets(self.readings)
+        return self.rules_told([r for r in range(len(self.rules)) if any(r in some for some in sets)])
+
+    def sure(self):
+        sets = self.least_sets(self.readings)
+        if sets == []:
+            return [-33]
+        return self.rules_told([r for r in range(len(self.rules)) if all(r in some for some in sets)])
+
+    def clashes(self):
+        return self.sets_told(self.all_clashes())
+
+    def clash(self, k):
+        return self.kth_told(self.all_clashes(), k)
+
+    def tells(self, t, i, p):
+        return self.refusal(t, i, 0, p) or self.sets_told(self.least_sets(self.readings + [(t, i, 0, p)]))
+
+    def spare(self, k):
+        if k not in range(len(self.readings)):
+            return [-2]
+        others = [reading for number, reading in enumerate(self.readings) if number != k]
+        return [int(self.least_sets(others) == self.least_sets(self.readings))]
+
+    def reading(self, k):
+        return [*self.readings[k]] if k in range(len(self.readings)) else [-2]
+
+    def state(self):
+        return [len(self.marks), len(self.rules), len(self.readings), self.moments(), *self.marks]
 
 
 def ought(calls):

@@ -2,8 +2,7 @@
 
 import itertools
 
-from tests.helper import BEGIN, LARGEST, NAMES, OK, PlantTest, ask, laid_out, probed, quantities
-from failrules.plant import CallNotBuilt, answers
+from tests.helper import BEGIN, LARGEST, NAMES, OK, PlantTest, ask, probed, quantities
 
 BEYOND = (3, 4, 5, 12, 255, 256, LARGEST)
 FULL_RULES = [("still", 0)] * 5
@@ -30,7 +29,9 @@ class Begin(PlantTest):
 
     def test_before_it_minus_11_comes_ahead_of_other_refusals(self):
         for call in (("quantity", LARGEST), ("more", 7, 7), ("sum", 1, 1, 1), ("rate", 2, 9, 2), ("meet", 1, 9, 1, 9),
-                     ("still", 9), ("drop", 9), ("seen", 9, 9, 9), ("goes", 9, 9, 9), ("unsay", 9), ("run", [1, 1])):
+                     ("still", 9), ("drop", 9), ("seen", 9, 9, 9), ("goes", 9, 9, 9), ("unsay", 9), ("run", [1, 1]),
+                     ("explains", [9]), ("nth", 9), ("clash", 9), ("may", 9, 9, [1, 1]), ("tells", 9, 9, 9),
+                     ("spare", 9), ("reading", 9)):
             self.check([call], -11)
 
     def test_lists_are_read_past_before_it(self):
@@ -47,11 +48,6 @@ class Begin(PlantTest):
         self.assertEqual(probed(full + [BEGIN]), probed([BEGIN]))
         self.check(full + [BEGIN, ("still", 0), ("drop", 0), ("unsay", 0), ("run", [])], -2, -2, -2, 1)
         self.check(full + quantities(0) + [("still", 0), ("goes", 1, 0, 1), OK, ("run", [])], 0, 0, 1, [2, 0, 1, 0, 1])
-
-    def test_the_calls_of_a_later_stage_are_not_made_up(self):
-        for name in NAMES[14:]:
-            with self.assertRaises(CallNotBuilt):
-                answers(laid_out([BEGIN, (name, *ANY_CALLS[name])]))
 
 
 class Quantity(PlantTest):
